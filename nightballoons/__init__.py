@@ -1,0 +1,1 @@
+"""Nights in the air: for how many nights a gas balloon can stay up."""
