@@ -5,6 +5,9 @@ from nightballoons.flight import NOTHING_WRONG, Balloon
 BEGINS = 0
 LOAD = 1
 CHECK = 2
+NIGHTS = 3
+NEEDS = 4
+MOST = 5
 
 NOT_AS_TOLD = -1
 NOT_LIFTED = -3
@@ -16,6 +19,7 @@ MOST_OVER = 10000
 MOST_LEAK = 200
 MOST_GAS = 200
 MOST_SAND = 10000
+MOST_NIGHTS = 200
 
 
 class UnknownCall(ValueError):
@@ -45,6 +49,10 @@ def call_end(calls, start):
         return start + 3
     if call == CHECK:
         return start + 2 + calls[start + 1]
+    if call == NEEDS:
+        return start + 2
+    if call in (NIGHTS, MOST):
+        return start + 1
     raise UnknownCall(f"no call has the number {call}")
 
 
@@ -54,7 +62,13 @@ def answer_call(balloon, call, numbers):
         return begins(balloon, numbers[0], numbers[1], numbers[2], numbers[3], numbers[4])
     if call == LOAD:
         return load(balloon, numbers[0], numbers[1])
-    return check(balloon, numbers[1:])
+    if call == CHECK:
+        return check(balloon, numbers[1:])
+    if call == NIGHTS:
+        return nights(balloon)
+    if call == NEEDS:
+        return needs(balloon, numbers[0])
+    return most(balloon)
 
 
 def begins(balloon, weight, day, night, over, leak):
@@ -98,3 +112,30 @@ def check(balloon, plan):
             return [WOULD_NOT_DO, night, wrong]
         sand = sand - thrown
     return [len(plan), gas, sand]
+
+
+def nights(balloon):
+    """Fly by as little as has to be: for how many nights it stays up, then what is thrown in each."""
+    if balloon.lift_to_spare(balloon.gas, balloon.sand) < 0:
+        return [NOT_LIFTED]
+    thrown = balloon.least_plan(balloon.sand)
+    return [len(thrown)] + thrown
+
+
+def needs(balloon, many):
+    """How much sand it takes at the start, at the least, for so many nights."""
+    if many > MOST_NIGHTS:
+        return [NOT_AS_TOLD]
+    most_sand = balloon.most_sand()
+    # No plan keeps it up for more nights than as little as has to be, so only that one is asked.
+    if most_sand < 0 or balloon.nights_up(most_sand) < many:
+        return [WOULD_NOT_DO]
+    return [balloon.least_sand(many, most_sand)]
+
+
+def most(balloon):
+    """With how much sand it's lifted at the most, then for how many nights it stays up with so much."""
+    most_sand = balloon.most_sand()
+    if most_sand < 0:
+        return [WOULD_NOT_DO]
+    return [most_sand, balloon.nights_up(most_sand)]

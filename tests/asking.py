@@ -15,6 +15,18 @@ def check(*plan):
     return [2, len(plan), *plan]
 
 
+def nights():
+    return [3]
+
+
+def needs(many):
+    return [4, many]
+
+
+def most():
+    return [5]
+
+
 def ask(*calls):
     """Hand in the calls as one list; give back a list of numbers for each."""
     return split([number for call in calls for number in call])

@@ -2,27 +2,9 @@ import unittest
 from itertools import product
 
 from asking import ask, begins, check, load
+from slowly import flown
 
 BIGGEST = 4294967295
-
-
-def flown(made, gas, sand, plan):
-    """What check answers, found the slow way: one measure after another is let off and leaks."""
-    weight, day, night, over, leak = made
-    if weight + sand > gas * day:
-        return [-3]
-    for which, thrown in enumerate(plan):
-        while gas * day > weight + sand + over:
-            gas -= 1
-        for _ in range(leak):
-            if gas > 0:
-                gas -= 1
-        if thrown > sand:
-            return [-6, which, 1]
-        sand -= thrown
-        if weight + sand > gas * night:
-            return [-6, which, 2]
-    return [len(plan), gas, sand]
 
 
 class CheckTest(unittest.TestCase):
